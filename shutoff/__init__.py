@@ -1,0 +1,1 @@
+"""Shut off: how strangers' bases cut a railway company off from its goals."""
