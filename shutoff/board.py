@@ -120,17 +120,17 @@ def answer_reach_if(network, arguments):
 
 
 # By a call's number: how many whole numbers it takes, how many rows (0 or 1) behind them, and who answers it.
-CALLS = (
-    (3, 0, answer_node),
-    (2, 0, answer_line),
-    (3, 0, answer_set),
-    (1, 0, answer_unline),
-    (0, 0, answer_clear),
-    (0, 0, answer_graph),
-    (1, 0, answer_fill),
-    (0, 0, answer_reach),
-    (0, 1, answer_reach_if),
-)
+CALLS = {
+    0: (3, 0, answer_node),
+    1: (2, 0, answer_line),
+    2: (3, 0, answer_set),
+    3: (1, 0, answer_unline),
+    4: (0, 0, answer_clear),
+    5: (0, 0, answer_graph),
+    6: (1, 0, answer_fill),
+    7: (0, 0, answer_reach),
+    8: (0, 1, answer_reach_if),
+}
 
 
 def answers(calls):

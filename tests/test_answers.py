@@ -81,6 +81,11 @@ class AnswersTest(unittest.TestCase):
         for call, told in firsts.items():
             self.assertEqual(answers(list(call)), told, call)
 
+    def test_a_number_that_is_no_calls(self):
+        for wrong in (-1, -9, 18, 2147483647, -2147483648):
+            with self.assertRaises(KeyError):
+                answers([5, wrong, 0, 0, 0])
+
     def test_400_calls(self):
         self.assertEqual(answers([7] * 400), [1, 0] * 400)
         self.assertEqual(answers([0, 0, 0, 0] * 400)[-4:], [1, -4, 1, -4])
