@@ -1,9 +1,11 @@
 """The calls, told as one list of whole numbers, and their answers, told as another."""
 
+from shutoff.cutting import furthest_stops, is_cut_off, least_number, nearest_stops, tight_stops, weakest_stop
 from shutoff.network import MOST_FREE, MOST_LINES, MOST_NODES, Network, Node
-from shutoff.reach import reached_nodes
-from shutoff.refusals import JOINED_ALREADY, NO_MORE_ROOM, NO_SUCH_LINE, NO_SUCH_NODE
+from shutoff.reach import needed_nodes, reached_nodes
+from shutoff.refusals import BADLY_TOLD_WAYS, JOINED_ALREADY, NO_MORE_ROOM, NO_SUCH_LINE, NO_SUCH_NODE
 from shutoff.refusals import NOT_THAT_KIND, OUT_OF_RANGE, THERE_TWICE
+from shutoff.ways import NOTHING_WRONG, crowded_stop, ways_of_row, wrong_of_way
 
 
 def are_in_range(free, base):
@@ -119,6 +121,95 @@ def answer_reach_if(network, arguments):
     return counted(reached_nodes(network, row))
 
 
+def told_least(network, goal):
+    least = least_number(network, goal)
+    if least is None:
+        return [0]
+    return [1, least]
+
+
+def answer_least(network, arguments):
+    goal = arguments[0]
+    if not network.has_node(goal):
+        return [NO_SUCH_NODE]
+    return told_least(network, goal)
+
+
+def answer_tight(network, arguments):
+    goal = arguments[0]
+    if not network.has_node(goal):
+        return [NO_SUCH_NODE]
+    return counted(tight_stops(network, goal))
+
+
+def answer_nearest(network, arguments):
+    goal = arguments[0]
+    if not network.has_node(goal):
+        return [NO_SUCH_NODE]
+    return counted(nearest_stops(network, goal))
+
+
+def answer_furthest(network, arguments):
+    goal = arguments[0]
+    if not network.has_node(goal):
+        return [NO_SUCH_NODE]
+    return counted(furthest_stops(network, goal))
+
+
+def answer_cuts(network, arguments):
+    goal = arguments[0]
+    row = arguments[1]
+    if not network.has_node(goal):
+        return [NO_SUCH_NODE]
+    refusal = row_refusal(network, row)
+    if refusal is not None:
+        return [refusal]
+    price = sum([network.nodes[stop].free for stop in row])
+    if is_cut_off(network, goal, row):
+        return [1, price]
+    return [0, price]
+
+
+def answer_ways(network, arguments):
+    goal = arguments[0]
+    if not network.has_node(goal):
+        return [NO_SUCH_NODE]
+    ways = ways_of_row(arguments[1])
+    if ways is None:
+        return [BADLY_TOLD_WAYS]
+    for place, way in enumerate(ways):
+        wrong = wrong_of_way(network, goal, way)
+        if wrong != NOTHING_WRONG:
+            return [1, place, wrong]
+    stop = crowded_stop(network, goal, ways)
+    if stop is not None:
+        return [2, stop]
+    return [0, len(ways)]
+
+
+def answer_needed(network, arguments):
+    goal = arguments[0]
+    if not network.has_node(goal):
+        return [NO_SUCH_NODE]
+    return counted(needed_nodes(network, goal))
+
+
+def answer_all(network, arguments):
+    stops = [number for number, node in enumerate(network.nodes) if node.stop == 1]
+    told = [len(stops)]
+    for stop in stops:
+        told.append(stop)
+        told.extend(told_least(network, stop))
+    return told
+
+
+def answer_weakest(network, arguments):
+    weakest = weakest_stop(network)
+    if weakest is None:
+        return [0]
+    return [1, weakest[0], weakest[1]]
+
+
 # By a call's number: how many whole numbers it takes, how many rows (0 or 1) behind them, and who answers it.
 CALLS = {
     0: (3, 0, answer_node),
@@ -130,6 +221,15 @@ CALLS = {
     6: (1, 0, answer_fill),
     7: (0, 0, answer_reach),
     8: (0, 1, answer_reach_if),
+    9: (1, 0, answer_least),
+    10: (1, 0, answer_tight),
+    11: (1, 0, answer_nearest),
+    12: (1, 0, answer_furthest),
+    13: (1, 1, answer_cuts),
+    14: (1, 1, answer_ways),
+    15: (1, 0, answer_needed),
+    16: (0, 0, answer_all),
+    17: (0, 0, answer_weakest),
 }
 
 

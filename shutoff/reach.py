@@ -1,18 +1,33 @@
-"""Which nodes the company reaches."""
+"""Which nodes the company reaches, and without which ones it wouldn't."""
 
 
-def reached_nodes(network, filled):
-    """The reached nodes by rising numbers, as if the stops of the list filled were shut."""
+def nodes_come_to(network, starts, barred):
+    """The nodes that one comes to from the starts, by rising numbers, if one goes on from none of those barred."""
     joined = network.neighbours()
-    reached = [node.base == 1 for node in network.nodes]
-    waiting = [number for number, node in enumerate(network.nodes) if node.base == 1]
+    come_to = dict([(start, True) for start in starts])
+    waiting = list(starts)
     while waiting:
         here = waiting.pop()
-        # A shut stop is reached itself, but it lets nobody through.
-        if here in filled or network.nodes[here].is_shut():
+        if here in barred:
             continue
         for number in joined[here]:
-            if not reached[number]:
-                reached[number] = True
+            if number not in come_to:
+                come_to[number] = True
                 waiting.append(number)
-    return [number for number, is_reached in enumerate(reached) if is_reached]
+    return sorted(come_to)
+
+
+def reached_nodes(network, barred):
+    """The reached nodes by rising numbers, as if nobody went through the nodes of the list barred."""
+    bases = [number for number, node in enumerate(network.nodes) if node.base == 1]
+    # A shut stop is reached itself, but it lets nobody through.
+    shut = [number for number, node in enumerate(network.nodes) if node.is_shut()]
+    return nodes_come_to(network, bases, shut + barred)
+
+
+def needed_nodes(network, goal):
+    """The nodes but the goal without which the goal, which is reached, wouldn't be; none if it isn't reached."""
+    if goal not in reached_nodes(network, []):
+        return []
+    others = [number for number in range(len(network.nodes)) if number != goal]
+    return [number for number in others if goal not in reached_nodes(network, [number])]

@@ -32,10 +32,52 @@ def reach_if(*stops):
     return [8, len(stops), *stops]
 
 
+def least(goal):
+    return [9, goal]
+
+
+def tight(goal):
+    return [10, goal]
+
+
+def nearest(goal):
+    return [11, goal]
+
+
+def furthest(goal):
+    return [12, goal]
+
+
+def cuts(goal, *stops):
+    return [13, goal, len(stops), *stops]
+
+
+def ways_row(goal, *row):
+    return [14, goal, len(row), *row]
+
+
+def ways(goal, *told):
+    """The call with each way told as a list of nodes."""
+    return ways_row(goal, *[number for way in told for number in [len(way), *way]])
+
+
+def needed(goal):
+    return [15, goal]
+
+
 CLEAR = [4]
 GRAPH = [5]
 REACH = [7]
+ALL = [16]
+WEAKEST = [17]
 JOINT = node(0, 0, 0)
+SHUT = node(1, 0, 0)
+BASE = node(1, 0, 1)
+
+
+def stop(free):
+    """A stop that's open to strangers."""
+    return node(1, free, 0)
 
 
 def lines(*pairs):
@@ -70,6 +112,16 @@ class Asking(unittest.TestCase):
     def last(self, before, call, wanted):
         """The call, behind the others, answers what's wanted."""
         self.assertEqual(ask(*before, call)[-1], wanted, call)
+
+    def each(self, before, wanted):
+        """Each of the pairs of a call and its answer holds behind the others, and no such call changes anything."""
+        calls = [call for call, answer in wanted]
+        told = ask(*before, GRAPH, REACH, *calls, GRAPH, REACH, *calls)
+        told = told[len(before):]
+        half = len(calls) + 2
+        for place, (call, answer) in enumerate(wanted):
+            self.assertEqual(told[2 + place], answer, call)
+        self.assertEqual(told[:half], told[half:])
 
     def refused(self, before, call, refusal):
         """The call, behind the others, is refused by this number alone, and nothing has changed."""

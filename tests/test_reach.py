@@ -3,29 +3,11 @@
 import itertools
 import unittest
 
-from tests.asking import CLEAR, GRAPH, HIGHEST, JOINT, LOWEST, REACH
+from tests.asking import BASE, CLEAR, GRAPH, HIGHEST, JOINT, LOWEST, REACH, SHUT
 from tests.asking import Asking, ask, fill, line, lines, node, reach_if, set_stop
+from tests.words import reached, subsets
 
-BASE = node(1, 0, 1)
-SHUT = node(1, 0, 0)
 KINDS = (JOINT, SHUT, node(1, 2, 0), node(1, 1, 1), BASE)
-
-
-def reached_by_the_words(kinds, pairs, filled):
-    """The words taken literally: go over all lines until none brings a new node."""
-    shut = [kind == SHUT or number in filled for number, kind in enumerate(kinds)]
-    reached = {number for number, kind in enumerate(kinds) if kind[3] == 1}
-    while True:
-        brought = {b for a, b in pairs if a in reached and not shut[a]}
-        brought |= {a for a, b in pairs if b in reached and not shut[b]}
-        if brought <= reached:
-            return sorted(reached)
-        reached |= brought
-
-
-def subsets(things):
-    for size in range(len(things) + 1):
-        yield from itertools.combinations(things, size)
 
 
 class ReachTest(Asking):
@@ -73,7 +55,7 @@ class ReachTest(Asking):
             wanted = []
             for pairs in subsets(every_pair):
                 calls.append([CLEAR, *kinds, *lines(*pairs), REACH])
-                wanted.append(reached_by_the_words(kinds, pairs, ()))
+                wanted.append(reached(kinds, pairs))
             for start in range(0, 64, 16):
                 self.check_batch(calls[start:start + 16], wanted[start:start + 16])
 
@@ -109,7 +91,7 @@ class ReachIfTest(Asking):
             for order in itertools.permutations(stops):
                 wanted = ask(*self.BUILT, *[set_stop(number, 0, 0) for number in stops], REACH)[-1]
                 self.last(self.BUILT, reach_if(*order), wanted)
-                by_the_words = reached_by_the_words(self.NODES, self.PAIRS, stops)
+                by_the_words = reached(self.NODES, self.PAIRS, stops)
                 self.assertEqual(wanted, [len(by_the_words), *by_the_words])
 
     def test_nothing_changes(self):
