@@ -77,6 +77,18 @@ class LanguageTest(unittest.TestCase):
             names |= {row.targets[0].id for row in defined if isinstance(row, ast.Assign)}
             self.assertLessEqual({name.name for name in part.names}, names, place)
 
+    def test_top_of_each_file(self):
+        plain = (ast.Constant, ast.UnaryOp, ast.USub, ast.List, ast.Tuple, ast.Dict, ast.Name, ast.Load)
+        for path, tree in self.trees.items():
+            functions = set()
+            for row in tree.body[1:]:
+                self.assertIsInstance(row, (ast.ImportFrom, ast.FunctionDef, ast.ClassDef, ast.Assign), path)
+                if isinstance(row, ast.FunctionDef):
+                    functions.add(row.name)
+                for part in ast.walk(row.value) if isinstance(row, ast.Assign) else []:
+                    self.assertIsInstance(part, plain, f"{path.name}:{row.lineno}")
+                    self.assertTrue(not isinstance(part, ast.Name) or part.id in functions, f"{path.name}:{row.lineno}")
+
     def test_nothing_that_is_left_out(self):
         for place, part in self.parts(LEFT_OUT):
             self.fail(f"{place} {type(part).__name__}")
